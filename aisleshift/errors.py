@@ -1,7 +1,7 @@
 """The refusals of the package."""
 
-# No class here makes its base anew: Python itself keeps the arguments that an
-# error is made with, and shows them, and a copy of the error is made from them.
+# No class here hands a message to its base: Python keeps the arguments that an error is
+# made with by itself, and needs just these for the message and for a copy of the error.
 
 
 class AisleError(ValueError):
