@@ -21,7 +21,7 @@ def begin(store):
 
 def barred(store, state, step):
     """Tells the first rule that bars the step, with its number, or None."""
-    _refuse_no_steps(store, [step])
+    refuse_no_steps(store, [step])
     return _bar(store, state, step)
 
 
@@ -32,7 +32,7 @@ def steps_at(store, state):
 
 def played(store, plan):
     """Tells all states of the plan, the one at first too."""
-    _refuse_no_steps(store, plan)
+    refuse_no_steps(store, plan)
     state = begin(store)
     states = [state]
     for at, step in enumerate(plan):
@@ -47,8 +47,8 @@ def played(store, plan):
 
 def shifts(store, plan):
     """Tells how many shifts the steps have, barred or not."""
-    _refuse_no_steps(store, plan)
-    return len([step for step in plan if step[0] == "shift"])
+    refuse_no_steps(store, plan)
+    return sum([shifts_of(step) for step in plan])
 
 
 def is_end(store, state):
@@ -75,17 +75,22 @@ def behind(store, state, step):
     return (aisle, done, inside, kept)
 
 
-def _all_steps(store):
-    """Tells all steps of the store, barred or not."""
-    return list(STEPS_OF_ANY_STORE) + [("do", number) for number in range(len(store.wishes()))]
+def shifts_of(step):
+    """Tells how many shifts a step of the store is: 1 or 0."""
+    return 1 if step[0] == "shift" else 0
 
 
-def _refuse_no_steps(store, plan):
+def refuse_no_steps(store, plan):
     """Refuses with BadStep the first thing in the plan that is no step."""
     known = _all_steps(store)
     for step in plan:
         if step not in known:
             raise BadStep(f"no step of this store: {step}")
+
+
+def _all_steps(store):
+    """Tells all steps of the store, barred or not."""
+    return list(STEPS_OF_ANY_STORE) + [("do", number) for number in range(len(store.wishes()))]
 
 
 def _bar(store, state, step):
@@ -175,11 +180,7 @@ def _is_beside(aisle, shelf, side):
 def _has_now(store, done, shelf):
     """Tells how many the shelf has when these wishes are done."""
     _, has, _ = store.shelves()[shelf]
-    wishes = store.wishes()
-    for number in done:
-        kind, place, _, _, _, _ = wishes[number]
-        if place == shelf and kind == "fetch":
-            has = has - 1
-        elif place == shelf:
-            has = has + 1
+    for number, (kind, place, _, _, _, _) in enumerate(store.wishes()):
+        if number in done and place == shelf:
+            has = has - 1 if kind == "fetch" else has + 1
     return has

@@ -11,6 +11,7 @@ BUILTINS = {
     "str", "bool", "list", "tuple", "dict", "set", "isinstance", "ord", "repr", "any", "all",
     "divmod", "super",
 }
+LIBRARY = {"heapq": {"heappush", "heappop"}}
 BARRED_NODES = (ast.Global, ast.AsyncFunctionDef, ast.Await, ast.Div, ast.Import)
 
 
@@ -44,10 +45,27 @@ class LanguageTest(unittest.TestCase):
     def test_imports_are_of_the_package_by_full_names(self):
         for name, node in nodes(ast.ImportFrom):
             self.assertEqual(node.level, 0, name)
+            told = {alias.name for alias in node.names}
+            self.assertEqual([alias.asname for alias in node.names if alias.asname], [], name)
+            if node.module in LIBRARY:
+                self.assertLessEqual(told, LIBRARY[node.module], name)
+                continue
             self.assertTrue(node.module.startswith("aisleshift."), (name, node.module))
             defined = ast.parse((PACKAGE / (node.module.split(".")[1] + ".py")).read_text())
             here = {part.name for part in defined.body if hasattr(part, "name")}
-            self.assertLessEqual({alias.name for alias in node.names}, here, name)
+            here |= {part.targets[0].id for part in defined.body if isinstance(part, ast.Assign)}
+            self.assertLessEqual(told, here, name)
+
+    def test_no_variable_has_an_imports_name(self):
+        for path in PACKAGE.glob("*.py"):
+            walked = list(ast.walk(ast.parse(path.read_text(encoding="ascii"))))
+            told = {alias.name for node in walked if isinstance(node, ast.ImportFrom)
+                    for alias in node.names}
+            bound = {node.arg for node in walked if isinstance(node, ast.arg)}
+            bound |= {node.id for node in walked
+                      if isinstance(node, ast.Name) and isinstance(node.ctx, ast.Store)}
+            self.assertEqual(told & bound, set(), path.name)
+            self.assertEqual([word for word in bound if hasattr(builtins, word)], [], path.name)
 
     def test_no_barred_statements(self):
         self.assertEqual(list(nodes(BARRED_NODES)), [])
